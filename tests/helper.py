@@ -1,0 +1,123 @@
+"""What the tests share: any things, things spoiled in one place, and a case that tells True from 1."""
+
+import copy
+import itertools
+import unittest
+
+HUGE = 10 ** 199 + 7
+
+LATE = ("late", 5)
+TARDY = ("tardy", 5, 3)
+MISS = ("miss", 5, 4)
+ENDS = ("ends", 2)
+STEPS = ("steps", ((-1, 0), (4, 7), (6, 7), (9, 8)))
+COSTS = (LATE, TARDY, MISS, ENDS, STEPS)
+
+
+def nested(depth, kind):
+    thing = kind()
+    for turn in range(depth - 1):
+        thing = kind([thing])
+    return thing
+
+
+def any_things():
+    """Things of every kind that any thing may be, new ones at each call."""
+    return [
+        True, False, None, 0, 1, -1, 2, 7, HUGE, -HUGE,
+        "", "late", "(0, 1)", "x" * 4000, "0 1",
+        (), [], ((),), ([],), [()], (None,), (True,), (False, True), (0,), (1,), (0, 1), [0, 1],
+        (1, 1), (0, 2), (1, 0), (3, 2), (True, 1), (1, True), (0, True), ("0", "1"), (None, None),
+        (0, 1, 2), (2, 1, 0), (0, 0), (0, -1), (-1, 2), (HUGE, 1), (1, HUGE), (HUGE, HUGE), (0, HUGE),
+        ("late",), ("late", 5), ["late", 5], ("late", True), ("late", 5, 1), ("late", None), ("late", "5"),
+        ("tardy", 5), ("tardy", 5, -1), ("tardy", 5, True), ("miss", False, 1), ("miss", 5, 4, 3),
+        ("ends", -1), ("ends", True), ("ends",), ("steps",), ("steps", ()), ("steps", []), ("steps", 3),
+        ("steps", ((0, 1), (0, 2))), ("steps", ((0, 2), (1, 1))), ("steps", ([0, 1],)), ("steps", [(0, 1)]),
+        ("steps", ((0, 1, 2),)), ("steps", (None, (0, 1))), (("late",), 5), (["late"], 5), (True, 5), (0, ("late", 5)),
+        (2, 0, ("late", 5)), [2, 0, ("late", 5)], (2, 0, ["late", 5]), (True, 0, ("late", 5)), (2, False, ("late", 5)),
+        ((2, 0, ("late", 5)),), [(2, 0, ("late", 5))], ((2, 0, ("late", 5)), None), (0, 0, ("late", 5)),
+        ((0, 1),), [(0, 1)], ([0, 1],), ((0, 1), (1, 0)), ((0, True),), ((False, 1),), ((0, 1), None), ((0, 1, 2),),
+        ((0, HUGE),), ((-HUGE, 1),), ((0, 0, 2),), [(0, 0, 2)], ([0, 0, 2],), ((0, 0, 2), (1, 2, 3)),
+        ((0, False, 2),), ((0, 0, True),), ((True, 0, 2),), ((HUGE, 0, 2),), ((0, HUGE, HUGE + 2),), ((0, 0, HUGE),),
+        nested(20, tuple), nested(20, list), (nested(19, tuple), nested(19, list)), ((0, nested(18, list)),),
+        tuple(range(5000)), list(range(5000)), (0,) * 5000, ((0, 1),) * 1600, (None,) * 4999, ((0, 0, 1),) * 1200,
+    ]
+
+
+def tuples_as_lists(thing):
+    return [tuples_as_lists(each) for each in thing] if isinstance(thing, tuple) else thing
+
+
+def spoiled_here(thing):
+    """The thing's own place taken by what is of another kind than it."""
+    put = [None, True, False, "x", "", [], nested(20, list), nested(20, tuple), ["x"]]
+    if isinstance(thing, tuple):
+        put += [list(thing), thing + (None,), thing + (True,), thing[:-1] + ([],), tuples_as_lists(thing)]
+        put += [1, -HUGE]
+    else:
+        put += [(thing,), [thing]]
+    return [copy.deepcopy(each) for each in put]
+
+
+def spoiled(thing):
+    """All that a right thing becomes as one place of it is taken by what can't stand there."""
+    told = spoiled_here(thing)
+    if isinstance(thing, tuple):
+        for k, part in enumerate(thing):
+            told += [thing[:k] + (bad,) + thing[k + 1:] for bad in spoiled(part)]
+    return told
+
+
+def sets_of(many):
+    """All SETS of so many works."""
+    return [some for size in range(many + 1) for some in itertools.combinations(range(many), size)]
+
+
+def goes_round(many, pairs):
+    """Whether the pairs go round: by walks as long as there are works, and one more."""
+    walks = {(a, b) for a, b in pairs}
+    ends = set(range(many))
+    for turn in range(many + 1):
+        ends = {b for a, b in walks if a in ends}
+    return bool(ends)
+
+
+def wishes_of(many):
+    """All WISHES of so many works."""
+    pairs = sorted(itertools.permutations(range(many), 2))
+    rows = [row for size in range(len(pairs) + 1) for row in itertools.combinations(pairs, size)]
+    return [row for row in rows if not goes_round(many, row)]
+
+
+def leads(pairs, a, b):
+    """Whether a row of one or more pairs leads from a to b."""
+    return any(one == a and (other == b or leads([pair for pair in pairs if pair[0] != a], other, b))
+               for one, other in pairs)
+
+
+class Case(unittest.TestCase):
+    """Tests whose things are compared with their kinds: True is no 1, a list no tuple."""
+
+    def same(self, told, wanted):
+        self.assertEqual(repr(told), repr(wanted))
+
+    def refused(self, error, fields, action, *things):
+        """The action refuses the things with the error, its fields as told."""
+        with self.assertRaises(error) as caught:
+            action(*things)
+        self.same({name: getattr(caught.exception, name) for name in fields}, fields)
+
+    def tells_of_any_thing(self, action):
+        """Of any thing the action tells a truth, and leaves the thing as it was."""
+        for thing in any_things():
+            kept = copy.deepcopy(thing)
+            self.assertIn(repr(action(thing)), ("True", "False"))
+            self.same(thing, kept)
+
+    def no_spoiled(self, action, thing):
+        """The action tells True of the thing, and False of all that it becomes spoiled."""
+        self.same(action(thing), True)
+        for bad in spoiled(thing):
+            kept = copy.deepcopy(bad)
+            self.assertIs(action(bad), False, bad)
+            self.same(bad, kept)
