@@ -95,6 +95,35 @@ def leads(pairs, a, b):
                for one, other in pairs)
 
 
+def moments_of(plan, work):
+    """The moments from which on the work is done for a day each."""
+    return [moment for j, begin, end in plan if j == work for moment in range(begin, end)]
+
+
+def day_plans(works, wishes, last):
+    """All PLANS that are done by the moment last, each in PIECES of one day."""
+    told = []
+    units = [j for j, work in enumerate(works) for day in range(work[0])]
+    for moments in itertools.combinations(range(last), len(units)):
+        for row in sorted(set(itertools.permutations(units))):
+            plan = tuple((j, moment, moment + 1) for j, moment in zip(row, moments))
+            done = [moments_of(plan, j) for j in range(len(works))]
+            if (all(done[j][0] >= work[1] for j, work in enumerate(works))
+                    and all(done[a][-1] < done[b][0] for a, b in wishes)):
+                told.append(plan)
+    return told
+
+
+def joined_up(plan):
+    """The same days with PIECES as long as can be."""
+    pieces = []
+    for j, begin, end in plan:
+        if pieces and pieces[-1][0] == j and pieces[-1][2] == begin:
+            begin = pieces.pop()[1]
+        pieces.append((j, begin, end))
+    return tuple(pieces)
+
+
 class Case(unittest.TestCase):
     """Tests whose things are compared with their kinds: True is no 1, a list no tuple."""
 
