@@ -5,12 +5,13 @@ from benchdays.errors import NoPaper
 from benchdays.heads import heads
 from benchdays.plain import is_number_of_work
 from benchdays.wishes import last_ones
+from benchdays.works import length_of
 
 
 def bound_of(works, wishes, some):
     """The BOUND of a SET that isn't void."""
     begins = heads(works, wishes)
-    end = min([begins[work] for work in some]) + sum([works[work][0] for work in some])
+    end = min([begins[work] for work in some]) + length_of(works, some)
     return min([cost_at(works[u][2], end) for u in last_ones(len(works), wishes, some)])
 
 

@@ -1,6 +1,7 @@
 """WORKS: tuples of (length, coming, cost)."""
 
 from benchdays.costs import is_cost
+from benchdays.errors import NoRule
 from benchdays.plain import is_number_from, is_tuple_of
 
 
@@ -24,12 +25,44 @@ def all_length(works):
     return sum([work[0] for work in works])
 
 
+def length_of(works, some):
+    """The lengths of some of the works, added."""
+    return sum([works[j][0] for j in some])
+
+
 def same_coming(works):
     """The coming of all, where all have the same one; else None."""
     coming = works[0][1]
     if all([work[1] == coming for work in works]):
         return coming
     return None
+
+
+def one_coming(works):
+    """The COMING of WORKS; refused where they come UNLIKE."""
+    coming = same_coming(works)
+    if coming is None:
+        raise NoRule("coming")
+    return coming
+
+
+def refuse_other_costs(works, word):
+    """Refuses WORKS of which some cost is none of the word."""
+    if any([work[2][0] != word for work in works]):
+        raise NoRule(word)
+
+
+def weight_of(work):
+    """The weight of a WORK whose cost is "tardy", "miss" or "ends"."""
+    return work[2][-1]
+
+
+def one_weight(works):
+    """The weight of all such WORKS; refused where two weights are unlike."""
+    weight = weight_of(works[0])
+    if any([weight_of(work) != weight for work in works]):
+        raise NoRule("weights")
+    return weight
 
 
 def with_work(works, j, work):

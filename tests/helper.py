@@ -2,6 +2,7 @@
 
 import copy
 import itertools
+import random
 import unittest
 
 HUGE = 10 ** 199 + 7
@@ -122,6 +123,120 @@ def joined_up(plan):
             begin = pieces.pop()[1]
         pieces.append((j, begin, end))
     return tuple(pieces)
+
+
+WORDS = ("late", "tardy", "miss", "ends", "steps")
+
+
+class Drawn:
+    """Works and wishes drawn alike at each run, up to the greatest bounds that the document tells."""
+
+    def __init__(self, seed, length=20, coming=60, least=-99, most=400, weight=9):
+        self.source = random.Random(seed)
+        self.length, self.coming, self.least, self.most, self.weight = length, coming, least, most, weight
+
+    def up_to(self, most):
+        return self.source.randint(0, most)
+
+    def due(self):
+        return self.source.randint(self.least, self.most)
+
+    def cost(self, words=WORDS):
+        word = self.source.choice(words)
+        if word == "late":
+            return (word, self.due())
+        if word == "ends":
+            return (word, self.up_to(self.weight))
+        if word == "steps":
+            begins = sorted({self.due() for row in range(5)})
+            return (word, tuple(zip(begins, sorted(self.up_to(99) for begin in begins))))
+        return (word, self.due(), self.up_to(self.weight))
+
+    def works(self, many, words=WORDS, alike=False):
+        coming = self.up_to(self.coming)
+        return tuple((self.source.randint(1, self.length), coming if alike else self.up_to(self.coming), self.cost(words))
+                     for k in range(many))
+
+    def row(self, many):
+        return self.source.sample(range(many), many)
+
+    def wishes(self, many, most=16):
+        pairs = list(itertools.combinations(self.row(many), 2))
+        return tuple(sorted(self.source.sample(pairs, min(len(pairs), self.up_to(most)))))
+
+    def forest(self, many):
+        row = self.row(many)
+        return tuple(sorted((self.source.choice(row[:k]), row[k]) for k in range(1, many) if self.up_to(3)))
+
+
+def orders_of(many, wishes):
+    """All ORDERS of so many works with the WISHES."""
+    return [row for row in itertools.permutations(range(many)) if all(row.index(a) < row.index(b) for a, b in wishes)]
+
+
+def renamed(works, wishes, row):
+    """The same works and wishes, number row[j] the one that was number j."""
+    turned = dict((row[j], work) for j, work in enumerate(works))
+    return (tuple(turned[j] for j in range(len(works))), tuple(sorted((row[a], row[b]) for a, b in wishes)))
+
+
+def small_late_works():
+    """LATE WORKS of three, with all that their dues may be to one another."""
+    for lengths in itertools.product((1, 2), repeat=3):
+        for dues in ((1, 2, 3), (3, 1, 2), (2, 2, 2), (4, 4, 1), (-1, 6, 3), (5, 3, 3)):
+            for weights in ((1, 1, 1), (2, 0, 1), (0, 0, 0), (1, 2, 3)):
+                yield tuple((length, 1, ("miss", due, weight)) for length, due, weight in zip(lengths, dues, weights))
+
+
+def in_time_told(works, some):
+    """Whether a SET of LATE WORKS CAN BE IN TIME, as the document tells it."""
+    end = works[0][1]
+    for due, j in sorted((works[j][2][1], j) for j in some):
+        end += works[j][0]
+        if end > due:
+            return False
+    return True
+
+
+def no_more_told(one, other):
+    return other is None or (one is not None and one <= other)
+
+
+def table_shape_told(works, thing):
+    """The path of the first fault in the shape of a TABLE, as the document tells it; None where there is none."""
+    many = sum(work[2][2] for work in works) + 1
+    if thing.__class__ is not tuple or len(thing) != len(works) + 1:
+        return ()
+    for k in range(len(thing)):
+        if thing[k].__class__ is not tuple or len(thing[k]) != many:
+            return (k,)
+        for w in range(many):
+            if thing[k][w] is not None and thing[k][w].__class__ is not int:
+                return (k, w)
+    return None
+
+
+def table_place_told(works, table):
+    """The first entry that isn't in its place, as (path, word), as the document tells it; None where all are."""
+    if not no_more_told(table[0][0], works[0][1]):
+        return ((0, 0), "begin")
+    row = [j for due, j in sorted((work[2][1], j) for j, work in enumerate(works))]
+    for k in range(1, len(table)):
+        length, coming, (word, due, weight) = works[row[k - 1]]
+        for w in range(len(table[k])):
+            if not no_more_told(table[k][w], table[k - 1][w]):
+                return ((k, w), "kept")
+            if w >= weight and table[k - 1][w - weight] is not None:
+                both = table[k - 1][w - weight] + length
+                if both <= due and not no_more_told(table[k][w], both):
+                    return ((k, w), "more")
+    return None
+
+
+def with_entry(table, k, w, entry):
+    """The TABLE with another entry w in its row k."""
+    row = table[k][:w] + (entry,) + table[k][w + 1:]
+    return table[:k] + (row,) + table[k + 1:]
 
 
 class Case(unittest.TestCase):
