@@ -19,7 +19,7 @@ def without(some, u):
 
 
 def gaps_filled(u, begin, end, pieces):
-    """The PIECES from begin to end, with u done wherever none of them is."""
+    """The PIECES of a STRETCH from begin to end without u, with u done wherever none of them is."""
     told = []
     at = begin
     for piece in pieces:
@@ -27,8 +27,8 @@ def gaps_filled(u, begin, end, pieces):
             told.append((u, at, piece[1]))
         told.append(piece)
         at = piece[2]
-    if at < end:
-        told.append((u, at, end))
+    # Were u done ahead of the last others, the STRETCH would have ended where these begin.
+    told.append((u, at, end))
     return told
 
 

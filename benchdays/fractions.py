@@ -47,3 +47,12 @@ def times(one, other):
 def less(one, other):
     """Whether the one FRACTION is less than the other."""
     return one[0] * other[1] < other[0] * one[1]
+
+
+def falling(ratios):
+    """The places of some FRACTIONS, that of the greatest first, those of like ones as they stood."""
+    row = []
+    for k, ratio in enumerate(ratios):
+        # The places ahead in the row are just those whose FRACTIONS are no less.
+        row.insert(len([j for j in row if not less(ratios[j], ratio)]), k)
+    return row

@@ -25,3 +25,10 @@ def is_tuple_of(many, thing):
 def rises(things):
     """Whether each thing is above the one ahead of it."""
     return all([one < other for one, other in zip(things, things[1:])])
+
+
+def is_set_of_works(many, thing):
+    """Whether it is a SET of so many works."""
+    if not isinstance(thing, tuple) or not all([is_number_of_work(many, entry) for entry in thing]):
+        return False
+    return rises(thing)
