@@ -13,6 +13,7 @@ MISS = ("miss", 5, 4)
 ENDS = ("ends", 2)
 STEPS = ("steps", ((-1, 0), (4, 7), (6, 7), (9, 8)))
 COSTS = (LATE, TARDY, MISS, ENDS, STEPS)
+QUESTIONS = ("greatest", "sum")
 
 
 def nested(depth, kind):
@@ -178,6 +179,38 @@ def renamed(works, wishes, row):
     """The same works and wishes, number row[j] the one that was number j."""
     turned = dict((row[j], work) for j, work in enumerate(works))
     return (tuple(turned[j] for j in range(len(works))), tuple(sorted((row[a], row[b]) for a, b in wishes)))
+
+
+def cost_at_told(cost, t):
+    """What a COST tells at t, as the document tells it."""
+    if cost[0] == "late":
+        return t - cost[1]
+    if cost[0] == "tardy":
+        return cost[2] * max(0, t - cost[1])
+    if cost[0] == "miss":
+        return cost[2] if t > cost[1] else 0
+    if cost[0] == "ends":
+        return cost[1] * t
+    return ([0] + [amount for begin, amount in cost[1] if begin <= t])[-1]
+
+
+def costs_told(works, order):
+    """What each work of an order costs, in the order, done whole as early as can be."""
+    told = []
+    end = 0
+    for j in order:
+        end = max(end, works[j][1]) + works[j][0]
+        told.append(cost_at_told(works[j][2], end))
+    return told
+
+
+def cost_told(works, order, question):
+    """What an order costs by a QUESTION, as the document tells it."""
+    return (sum if question == "sum" else max)(costs_told(works, order))
+
+
+def last_ones_told(wishes, some):
+    return [u for u in some if not any(leads(wishes, u, other) for other in some)]
 
 
 def small_late_works():
