@@ -14,7 +14,7 @@ STATEMENTS = (ast.Module, ast.FunctionDef, ast.ClassDef, ast.ImportFrom, ast.ali
               ast.Assert, ast.Delete, ast.Try, ast.ExceptHandler, ast.Expr)
 EXPRESSIONS = (ast.Constant, ast.Name, ast.Attribute, ast.Subscript, ast.Slice, ast.Call, ast.keyword, ast.BinOp,
                ast.UnaryOp, ast.BoolOp, ast.Compare, ast.IfExp, ast.List, ast.Tuple, ast.Dict, ast.Set, ast.ListComp,
-               ast.DictComp, ast.SetComp, ast.comprehension, ast.Lambda, ast.JoinedStr, ast.FormattedValue)
+               ast.DictComp, ast.SetComp, ast.comprehension, ast.Lambda, ast.JoinedStr, ast.FormattedValue, ast.Starred)
 SIGNS = (ast.operator, ast.unaryop, ast.boolop, ast.cmpop, ast.expr_context)
 
 BUILTINS = set("""len range enumerate zip min max sum abs sorted reversed int str bool bytes list tuple dict set
@@ -47,6 +47,12 @@ def names_defined(tree):
 
 def names_imported(tree):
     return [alias.asname or alias.name for node in tree.body if isinstance(node, ast.ImportFrom) for alias in node.names]
+
+
+def methods_of(tree):
+    """The names of the methods of all classes of a file, without their double underscores."""
+    return [part.name for node in tree.body if isinstance(node, ast.ClassDef) for part in node.body
+            if isinstance(part, ast.FunctionDef) and part.name not in OWN_DOUBLE]
 
 
 def names_bound(node):
@@ -86,6 +92,8 @@ class Language(unittest.TestCase):
         for place, node in self.each_node():
             self.assertIsInstance(node, STATEMENTS + EXPRESSIONS + SIGNS, place)
             self.assertNotIsInstance(node, (ast.Div, ast.MatMult), place)
+            if isinstance(node, ast.Starred):
+                self.assertIsInstance(node.ctx, ast.Store, place)
             if isinstance(node, (ast.For, ast.While)):
                 self.assertEqual(node.orelse, [], place)
             if isinstance(node, ast.Constant):
@@ -158,7 +166,24 @@ class Language(unittest.TestCase):
             if isinstance(node, ast.Call):
                 self.assertFalse([part for part in node.args if isinstance(part, ast.Starred)], place)
             if isinstance(node, ast.Call) and isinstance(node.func, ast.Attribute):
-                self.assertIn(node.func.attr, METHODS | {"__init__"}, place)
+                self.assertIn(node.func.attr, METHODS | {"__init__"} | self.own_methods(), place)
+
+    def own_methods(self):
+        return {name for path in FILES for name in methods_of(tree_of(path))}
+
+    def test_methods_and_attributes(self):
+        own = self.own_methods()
+        values = [value for kind in (str, int, list, dict, set, bytes) for value in dir(kind)]
+        self.assertEqual(own & set(values), set())
+        assigned = {node.attr for place, node in self.each_node()
+                    if isinstance(node, ast.Attribute) and isinstance(node.ctx, ast.Store)}
+        self.assertEqual(assigned & (own | set(values)), set())
+        for path in FILES:
+            tree = tree_of(path)
+            called = {id(node.func) for node in ast.walk(tree) if isinstance(node, ast.Call)}
+            for node in ast.walk(tree):
+                if isinstance(node, ast.Attribute) and id(node) not in called:
+                    self.assertIn(node.attr, assigned, f"{path.name}:{node.lineno}")
 
 
 if __name__ == "__main__":
